@@ -1,0 +1,1 @@
+"""Cutlinked: forests under links and cuts, and what each deed costs."""
