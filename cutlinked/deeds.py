@@ -2,7 +2,7 @@
 
 from cutlinked.errors import BadDeeds, NoDeed
 from cutlinked.forests import Forest, many, root, way
-from cutlinked.kinds import is_house, is_integer
+from cutlinked.kinds import fit, word_of
 
 # What stands behind the word of each deed.
 FORMS = {
@@ -40,22 +40,8 @@ def led(forest, deeds):
 
 def _has_form(houses, thing):
     """Whether a thing has the form of a deed where there are so many houses."""
-    if not isinstance(thing, tuple) or len(thing) == 0:
-        return False
-    # Looked up in the table only as a string: another thing might not do as a key.
-    if not isinstance(thing[0], str) or thing[0] not in FORMS:
-        return False
-    form = FORMS[thing[0]]
-    if len(thing) != 1 + len(form):
-        return False
-    return all([_fits(houses, part, kind) for part, kind in zip(thing[1:], form)])
-
-
-def _fits(houses, part, kind):
-    """Whether a part of a deed is of the kind that its form has there."""
-    if kind == "house":
-        return is_house(houses, part)
-    return is_integer(part)
+    word = word_of(thing)
+    return word in FORMS and fit(houses, thing[1:], FORMS[word])
 
 
 def _can_be_done(forest, deed):

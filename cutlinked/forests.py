@@ -1,9 +1,7 @@
 """Plain forests, walked from house to house (DOC.md 1.1)."""
 
 from cutlinked.errors import BadForest, NoHouse
-from cutlinked.kinds import is_house, is_integer
-
-MOST_HOUSES = 64
+from cutlinked.kinds import is_house, is_integer, is_many
 
 
 class Forest:
@@ -23,14 +21,14 @@ class Forest:
 
 def _are_parents(thing):
     """Whether a thing can be the parents of a forest."""
-    if not isinstance(thing, tuple) or not 1 <= len(thing) <= MOST_HOUSES:
+    if not isinstance(thing, tuple) or not is_many(len(thing)):
         return False
     if not all([parent is None or is_house(len(thing), parent) for parent in thing]):
         return False
-    return _come_to_roots(thing)
+    return come_to_roots(thing)
 
 
-def _come_to_roots(parents):
+def come_to_roots(parents):
     """Whether going up from each house comes to a root."""
     sure = [parent is None for parent in parents]
     for house in range(len(parents)):

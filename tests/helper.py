@@ -68,6 +68,16 @@ def no_houses(many):
     return strange_things() + [-1, -2, -many, many, many + 1, 2 ** 64, -2 ** 64, 10 ** 19, -10 ** 19]
 
 
+def no_integers():
+    """What is no integer."""
+    return strange_things() + ["0", "1", b"1", (1,), [1], {1: 1}]
+
+
+def no_manys():
+    """What is not how many houses a forest may have."""
+    return strange_things() + [0, -1, -64, 65, 66, 128, 2 ** 64, 10 ** 19, -10 ** 19]
+
+
 def leads_to_roots(parents):
     """Whether going to parents one comes to a root, from each house, step by step."""
     for house in range(len(parents)):

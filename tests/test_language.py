@@ -20,6 +20,10 @@ INTERFACE = {
                   "NothingDone", "NoLine", "NoName"],
     "forests.py": ["Forest", "many", "root", "depth", "below", "way", "common"],
     "deeds.py": ["is_deed", "behind", "led"],
+    "asks.py": ["is_ask", "answer"],
+    "shapes.py": ["is_shape", "rows", "told_forest", "resting", "rank", "weights", "potential", "handed_on",
+                  "turned_up"],
+    "reaching.py": ["reached", "is_paper"],
 }
 
 BUILTINS = """len range enumerate zip min max sum abs sorted reversed int str bool bytes list tuple dict set
