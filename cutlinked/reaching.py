@@ -66,7 +66,8 @@ def _join_rows(stands, met):
     ahead = None
     for house in met:
         # Both ups stay: the right son hangs where it was a son, the one ahead is a son where it hung.
-        stands[house].right = ahead
+        stand = stands[house]
+        stand.right = ahead
         ahead = house
 
 

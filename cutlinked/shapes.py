@@ -163,14 +163,20 @@ def _told_worth(stands, house):
     return worth
 
 
+def line_up(stands, house):
+    """The list of the houses that one comes to by going up, the house itself first."""
+    line = [house]
+    while stands[line[-1]].up is not None:
+        line.append(stands[line[-1]].up)
+    return line
+
+
 def _weights_of(stands):
     """The tuple of all weights."""
     found = [0] * len(stands)
     for house in range(len(stands)):
-        at = house
-        while at is not None:
+        for at in line_up(stands, house):
             found[at] += 1
-            at = stands[at].up
     return tuple(found)
 
 
@@ -196,30 +202,34 @@ def hand_on(stands, house):
 
 def turn_up(stands, house):
     """Turn up a house that is a son: it takes the place of its up, which becomes its son."""
-    ahead = stands[house].up
+    lower = stands[house]
+    ahead = lower.up
+    upper = stands[ahead]
     hand_on(stands, ahead)
     hand_on(stands, house)
     _take_place(stands, house, ahead)
-    if stands[ahead].right == house:
-        between = stands[house].left
-        stands[ahead].right = between
-        stands[house].left = ahead
+    if upper.right == house:
+        between = lower.left
+        upper.right = between
+        lower.left = ahead
     else:
-        between = stands[house].right
-        stands[ahead].left = between
-        stands[house].right = ahead
-    stands[ahead].up = house
+        between = lower.right
+        upper.left = between
+        lower.right = ahead
+    upper.up = house
     if between is not None:
-        stands[between].up = ahead
+        inner = stands[between]
+        inner.up = ahead
 
 
 def _take_place(stands, house, ahead):
     """Put a house where the one ahead is a son, hangs, or stands without up."""
-    upper = stands[ahead].up
-    stands[house].up = upper
-    if upper is None:
+    stand = stands[house]
+    stand.up = stands[ahead].up
+    if stand.up is None:
         return
-    if stands[upper].left == ahead:
-        stands[upper].left = house
-    elif stands[upper].right == ahead:
-        stands[upper].right = house
+    above = stands[stand.up]
+    if above.left == ahead:
+        above.left = house
+    elif above.right == ahead:
+        above.right = house

@@ -4,7 +4,11 @@ import itertools
 import random
 
 from cutlinked import errors
+from cutlinked.accounts import Account
 from cutlinked.forests import Forest
+from cutlinked.histories import History
+from cutlinked.kepts import Kept
+from cutlinked.roads import Roads
 
 FIELDS = {
     "BadForest": "part", "NoHouse": None, "NoDeed": None, "BadDeeds": "index", "NoNumber": None,
@@ -39,7 +43,8 @@ def plain_things():
         None, True, False, "", "0", "link", "parents", "way", "x" * 20000, b"", b"link", b"\x00",
         (), (0,), (None,), ((),), ("link",), [], [0], [None], [[]], ["link", 0, 1], {}, {0: 0},
         {"link": (0, 1)}, {None: []},
-        Forest((None,), (0,)), Forest((None, 0), (1, 2)),
+        Forest((None,), (0,)), Forest((None, 0), (1, 2)), Kept(Forest((None,), (0,))), Roads(2, 1),
+        Account(Forest((None,), (0,)), ()), History(2, (("come", 0, 1),)),
         nested(lambda inner: (inner,), 40), nested(lambda inner: [inner], 40),
         nested(lambda inner: {0: inner}, 40), nested(lambda inner: ("link", inner, 0), 40),
         tuple([None] * 20000), [0] * 20000, {k: k for k in range(10000)},
@@ -127,6 +132,33 @@ def large_forests():
     return [Forest(row, tuple(chance.randrange(-10 ** 20 + 1, 10 ** 20) for _ in row)) for row in rows]
 
 
+def some_deed(chance, forest):
+    """A deed by chance, by its form; perhaps it can't be done."""
+    houses = range(len(forest.parents))
+    one, other, number = chance.choice(houses), chance.choice(houses), chance.randrange(-9, 10)
+    return chance.choice([("link", one, other), ("link", root_of(forest, one), other), ("cut", one), ("turn", one),
+                          ("put", one, number), ("add", one, other, number)])
+
+
+def some_ask(chance, forest):
+    """An ask by chance."""
+    houses = range(len(forest.parents))
+    one, other = chance.choice(houses), chance.choice(houses)
+    return chance.choice([
+        ("root", one), ("depth", one), ("below", one), ("whole", one), ("joined", one, other), ("common", one, other),
+        ("way", one, other), ("where", one, other, "least"), ("where", one, other, "greatest"),
+        ("at", one, other, chance.randrange(1 + len(houses) // 2)),
+        ("reach", one, other, chance.choice(forest.worths) - chance.randrange(2)),
+    ])
+
+
+def root_of(forest, house):
+    """The house without parent that one comes to from a house."""
+    while forest.parents[house] is not None:
+        house = forest.parents[house]
+    return house
+
+
 def ties_of(forest):
     """For each house the houses that it is tied to."""
     tied = {house: [] for house in range(len(forest.parents))}
@@ -159,12 +191,10 @@ def root_among(forest, houses):
 
 def frozen(thing):
     """What a thing holds, for telling whether it was changed."""
-    if isinstance(thing, Forest):
-        return ("Forest", thing.parents, thing.worths, sorted(vars(thing)))
+    if type(thing).__module__.startswith("cutlinked."):
+        return (type(thing).__name__, frozen(vars(thing)), frozen(getattr(thing, "args", ())))
     if isinstance(thing, (list, tuple)):
         return (thing.__class__.__name__, [frozen(part) for part in thing])
     if isinstance(thing, dict):
         return ("dict", [(frozen(key), frozen(worth)) for key, worth in thing.items()])
-    if isinstance(thing, ValueError):
-        return (thing.__class__.__name__, frozen(vars(thing)), frozen(thing.args))
     return (thing.__class__.__name__, thing)

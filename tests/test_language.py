@@ -24,6 +24,15 @@ INTERFACE = {
     "shapes.py": ["is_shape", "rows", "told_forest", "resting", "rank", "weights", "potential", "handed_on",
                   "turned_up"],
     "reaching.py": ["reached", "is_paper"],
+    "kepts.py": ["Kept", "kept_of"],
+    "accounts.py": ["Account", "first_wrong", "standing_at", "cost_of"],
+    "roads.py": ["Roads"],
+    "histories.py": ["History", "lives", "answers_of", "parts_of", "kept_then", "joined_till"],
+}
+
+METHODS_DUE = {
+    "Kept": ["deed", "ask", "shape", "forest", "papers", "links", "spent", "bound", "copy"],
+    "Roads": ["come", "heaviest", "ties", "kept", "whole", "spent", "bound", "joined", "copy"],
 }
 
 BUILTINS = """len range enumerate zip min max sum abs sorted reversed int str bool bytes list tuple dict set
@@ -73,6 +82,12 @@ def defined(tree):
     return [node.name for node in tree.body if isinstance(node, (ast.FunctionDef, ast.ClassDef))]
 
 
+def nameable(tree):
+    """The names that another file may import."""
+    values = [target.id for node in tree.body if isinstance(node, ast.Assign) for target in node.targets]
+    return defined(tree) + values
+
+
 def bound_inside(function):
     """The names that a function binds: parameters, variables, nested functions."""
     found = [arg.arg for arg in ast.walk(function) if isinstance(arg, ast.arg)]
@@ -97,6 +112,12 @@ class TestFiles(unittest.TestCase):
         for name, due in INTERFACE.items():
             self.assertEqual([word for word in due if word not in defined(TREES[name])], [], name)
 
+    def test_methods_stand_in_their_classes(self):
+        found = {node.name: [part.name for part in node.body if isinstance(part, ast.FunctionDef)]
+                 for _, node in nodes(ast.ClassDef)}
+        for name, due in METHODS_DUE.items():
+            self.assertEqual([word for word in due if word not in found[name]], [], name)
+
     def test_imports(self):
         for name, tree in TREES.items():
             for node in tree.body:
@@ -105,7 +126,8 @@ class TestFiles(unittest.TestCase):
                     home = re.fullmatch(r"cutlinked\.([a-z0-9_]+)", node.module)
                     self.assertIsNotNone(home, name)
                     for item in node.names:
-                        self.assertIn(item.name, defined(TREES[home.group(1) + ".py"]), name)
+                        self.assertIn(item.name, nameable(TREES[home.group(1) + ".py"]), name)
+                        self.assertIsNone(item.asname, name)
         self.assertEqual([where for where, _ in nodes(ast.Import)], [])
         inner = [node for tree in TREES.values() for part in tree.body for node in ast.walk(part)
                  if isinstance(node, ast.ImportFrom) and node is not part]
@@ -174,6 +196,18 @@ class TestCode(unittest.TestCase):
             for method in node.body:
                 if isinstance(method, ast.FunctionDef) and method.name.startswith("__"):
                     self.assertIn(method.name, DOUBLE_UNDERSCORE, where)
+
+    def test_attributes_are_assigned_through_a_local_name(self):
+        for where, node in nodes(ast.Attribute):
+            if isinstance(node.ctx, ast.Store):
+                self.assertIsInstance(node.value, ast.Name, where)
+
+    def test_no_name_is_a_method_and_an_attribute(self):
+        for where, node in nodes(ast.ClassDef):
+            methods = [part.name for part in node.body if isinstance(part, ast.FunctionDef)]
+            stored = [part.attr for part in ast.walk(node) if isinstance(part, ast.Attribute)
+                      and isinstance(part.ctx, ast.Store)]
+            self.assertEqual([name for name in stored if name in methods], [], where)
 
     def test_no_local_name_of_a_class_or_an_import(self):
         for name, tree in TREES.items():
