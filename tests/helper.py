@@ -5,10 +5,12 @@ import random
 
 from cutlinked import errors
 from cutlinked.accounts import Account
+from cutlinked.disks import Disk
 from cutlinked.forests import Forest
 from cutlinked.histories import History
 from cutlinked.kepts import Kept
 from cutlinked.roads import Roads
+from cutlinked.savings import SavedKept
 
 FIELDS = {
     "BadForest": "part", "NoHouse": None, "NoDeed": None, "BadDeeds": "index", "NoNumber": None,
@@ -44,7 +46,8 @@ def plain_things():
         (), (0,), (None,), ((),), ("link",), [], [0], [None], [[]], ["link", 0, 1], {}, {0: 0},
         {"link": (0, 1)}, {None: []},
         Forest((None,), (0,)), Forest((None, 0), (1, 2)), Kept(Forest((None,), (0,))), Roads(2, 1),
-        Account(Forest((None,), (0,)), ()), History(2, (("come", 0, 1),)),
+        Account(Forest((None,), (0,)), ()), History(2, (("come", 0, 1),)), Disk(),
+        SavedKept(Forest((None,), (0,)), Disk()),
         nested(lambda inner: (inner,), 40), nested(lambda inner: [inner], 40),
         nested(lambda inner: {0: inner}, 40), nested(lambda inner: ("link", inner, 0), 40),
         tuple([None] * 20000), [0] * 20000, {k: k for k in range(10000)},

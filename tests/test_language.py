@@ -28,10 +28,15 @@ INTERFACE = {
     "accounts.py": ["Account", "first_wrong", "standing_at", "cost_of"],
     "roads.py": ["Roads"],
     "histories.py": ["History", "lives", "answers_of", "parts_of", "kept_then", "joined_till"],
+    "parcels.py": ["row_of", "sealed", "parcel_of", "is_parcel", "mark", "unsealed"],
+    "disks.py": ["Disk", "kept_parcels"],
+    "savings.py": ["SavedKept"],
 }
 
 METHODS_DUE = {
     "Kept": ["deed", "ask", "shape", "forest", "papers", "links", "spent", "bound", "copy"],
+    "Disk": ["write", "sync", "synced", "blocks", "cut", "drop", "copy"],
+    "SavedKept": ["deed", "ask", "shape", "forest", "papers", "links", "spent", "bound", "copy", "keep", "moved"],
     "Roads": ["come", "heaviest", "ties", "kept", "whole", "spent", "bound", "joined", "copy"],
 }
 
