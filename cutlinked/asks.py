@@ -23,8 +23,13 @@ def is_ask(many, thing):
     """Whether a thing is an ask by its form, where there are so many houses."""
     if not is_many(many):
         raise NoNumber()
+    return is_ask_form(many, thing)
+
+
+def is_ask_form(houses, thing):
+    """Whether a thing has the form of an ask where there are so many houses, however many."""
     word = word_of(thing)
-    return word in FORMS and fit(many, thing[1:], FORMS[word])
+    return word in FORMS and fit(houses, thing[1:], FORMS[word])
 
 
 def answer(forest, ask):

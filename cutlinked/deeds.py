@@ -16,7 +16,7 @@ FORMS = {
 
 def is_deed(forest, thing):
     """Whether a thing is a deed that can be done in the forest."""
-    return _has_form(many(forest), thing) and _can_be_done(forest, thing)
+    return is_deed_form(many(forest), thing) and _can_be_done(forest, thing)
 
 
 def behind(forest, deed):
@@ -38,7 +38,7 @@ def led(forest, deeds):
     return standing
 
 
-def _has_form(houses, thing):
+def is_deed_form(houses, thing):
     """Whether a thing has the form of a deed where there are so many houses."""
     word = word_of(thing)
     return word in FORMS and fit(houses, thing[1:], FORMS[word])

@@ -4,21 +4,21 @@ from cutlinked.asks import is_ask
 from cutlinked.deeds import is_deed
 from cutlinked.disks import Disk, kept_parcels
 from cutlinked.errors import NoAsk, NoDisk, OtherForest
-from cutlinked.kepts import Kept, kept_of
+from cutlinked.kepts import Kept
 from cutlinked.kinds import word_of
 from cutlinked.parcels import sealed, unsealed
-from cutlinked.shapes import is_shape, told_forest
+from cutlinked.shapes import is_shape, stands_of, told_forest
 
 
-class SavedKept:
+class SavedKept(Kept):
     """A Kept, and the disk on which its forest, its deeds and some of its shapes are noted."""
 
     def __init__(self, forest, disk):
         if not isinstance(disk, Disk):
             raise NoDisk()
         _begin_on(disk, forest)
+        super().__init__(forest)
         self._disk = disk
-        self._kept = Kept(forest)
         self._go_on_by_blocks()
 
     def _go_on_by_blocks(self):
@@ -35,70 +35,70 @@ class SavedKept:
         word = word_of(parcel)
         if word not in ("deed", "shape") or len(parcel) != 2:
             return False
-        standing = self._kept.forest()
-        if word == "deed" and is_deed(standing, parcel[1]):
-            self._kept.deed(parcel[1])
+        told = parcel[1]
+        if word == "deed" and is_deed(self.forest(), told):
+            super().deed(told)
             return True
-        if word == "shape" and is_shape(parcel[1]) and told_forest(parcel[1]) == standing:
-            self._kept = kept_of(parcel[1])
+        if word == "shape" and is_shape(told) and told_forest(told) == self.forest():
+            self._begin(stands_of(told))
             return True
         return False
 
     def deed(self, thing):
         """Do a deed, and write its block."""
-        self._kept.deed(thing)
+        super().deed(thing)
         self._disk.write(sealed(("deed", thing)))
 
     def ask(self, thing):
         """The answer to an ask; what was done until now lasts from then on."""
-        if not is_ask(len(self._kept.shape()), thing):
+        if not is_ask(len(self.shape()), thing):
             raise NoAsk()
         self._disk.sync()
-        return self._kept.ask(thing)
+        return super().ask(thing)
 
     def shape(self):
         """The shape that stands."""
-        return self._kept.shape()
+        return super().shape()
 
     def forest(self):
         """The forest that the shape tells."""
-        return self._kept.forest()
+        return super().forest()
 
     def papers(self):
         """The list of the papers of all reachings since it began, or its shape was kept last."""
-        return self._kept.papers()
+        return super().papers()
 
     def links(self):
         """How many links were done since then."""
-        return self._kept.links()
+        return super().links()
 
     def spent(self):
         """The sum of the first, the met and the last of all papers."""
-        return self._kept.spent()
+        return super().spent()
 
     def bound(self):
         """How much spent is at most."""
-        return self._kept.bound()
+        return super().bound()
 
     def copy(self):
         """A Kept like this one, without a disk, which goes on apart."""
-        return self._kept.copy()
+        return super().copy()
 
     def keep(self):
         """Write a block of the shape, and go on from it: how many blocks there are."""
-        standing = self._kept.shape()
+        standing = self.shape()
         self._disk.write(_block_of_shape(standing))
         self._disk.sync()
-        self._kept = kept_of(standing)
+        self._begin(stands_of(standing))
         return len(self._disk.blocks())
 
     def moved(self, disk):
         """A SavedKept of the forest that stands, over another disk without blocks, in this shape."""
         if not isinstance(disk, Disk) or disk == self._disk or len(disk.blocks()) > 0:
             raise NoDisk()
-        standing = self._kept.forest()
+        standing = self.forest()
         disk.write(_block_of_forest(standing))
-        disk.write(_block_of_shape(self._kept.shape()))
+        disk.write(_block_of_shape(self.shape()))
         return SavedKept(standing, disk)
 
 

@@ -5,7 +5,9 @@ import random
 
 from cutlinked import errors
 from cutlinked.accounts import Account
+from cutlinked.desks import Desk
 from cutlinked.disks import Disk
+from cutlinked.films import Reel
 from cutlinked.forests import Forest
 from cutlinked.histories import History
 from cutlinked.kepts import Kept
@@ -47,7 +49,7 @@ def plain_things():
         {"link": (0, 1)}, {None: []},
         Forest((None,), (0,)), Forest((None, 0), (1, 2)), Kept(Forest((None,), (0,))), Roads(2, 1),
         Account(Forest((None,), (0,)), ()), History(2, (("come", 0, 1),)), Disk(),
-        SavedKept(Forest((None,), (0,)), Disk()),
+        SavedKept(Forest((None,), (0,)), Disk()), Reel(Forest((None,), (0,)), (("turn", 0),), 1), Desk(),
         nested(lambda inner: (inner,), 40), nested(lambda inner: [inner], 40),
         nested(lambda inner: {0: inner}, 40), nested(lambda inner: ("link", inner, 0), 40),
         tuple([None] * 20000), [0] * 20000, {k: k for k in range(10000)},

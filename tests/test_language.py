@@ -31,19 +31,26 @@ INTERFACE = {
     "parcels.py": ["row_of", "sealed", "parcel_of", "is_parcel", "mark", "unsealed"],
     "disks.py": ["Disk", "kept_parcels"],
     "savings.py": ["SavedKept"],
+    "texts.py": ["written", "forest_text", "deeds_text", "account_text", "read_thing", "read_forest", "read_deeds",
+                 "read_account"],
+    "films.py": ["Reel"],
+    "pictures.py": ["drawn_forest", "drawn_shape", "drawn_weights"],
+    "desks.py": ["Desk"],
 }
 
 METHODS_DUE = {
     "Kept": ["deed", "ask", "shape", "forest", "papers", "links", "spent", "bound", "copy"],
     "Disk": ["write", "sync", "synced", "blocks", "cut", "drop", "copy"],
     "SavedKept": ["deed", "ask", "shape", "forest", "papers", "links", "spent", "bound", "copy", "keep", "moved"],
+    "Reel": ["stands", "spent_now", "worked", "forest_now", "shape_now", "kept", "seek", "copy"],
+    "Desk": ["tell"],
     "Roads": ["come", "heaviest", "ties", "kept", "whole", "spent", "bound", "joined", "copy"],
 }
 
 BUILTINS = """len range enumerate zip min max sum abs sorted reversed int str bool bytes list tuple dict set
     frozenset isinstance ord repr any all divmod map iter next Exception ValueError TypeError KeyError IndexError
     LookupError ZeroDivisionError ArithmeticError OverflowError RuntimeError NotImplementedError AttributeError
-    StopIteration NotImplemented""".split()
+    StopIteration NotImplemented super""".split()
 
 METHODS = """append clear copy count endswith extend find get index insert isalnum isalpha isdigit islower isspace
     isupper items join keys ljust lower lstrip partition pop remove replace reverse rfind rjust rpartition rsplit
@@ -55,7 +62,7 @@ BARRED_WORDS = """type typing typing_extensions enum Enum IntEnum StrEnum Flag I
 
 BARRED_NAMES = """register mro elements open input law version_info attrgetter breakpoint compile copyright credits
     delattr dir eval exec exit gc getattr globals hasattr help id importlib license locals methodcaller os quit
-    setattr super vars sys""".split()
+    setattr vars sys""".split()
 
 DOUBLE_UNDERSCORE = """__init__ __eq__ __repr__ __str__ __len__""".split()
 
@@ -178,6 +185,25 @@ class TestCode(unittest.TestCase):
                 if isinstance(sign, (ast.Is, ast.IsNot)):
                     self.assertIsInstance(sides[at + 1], ast.Constant, where)
                     self.assertTrue(sides[at + 1].value in (None, True, False), where)
+
+    def test_super_is_asked_for_a_method_at_once(self):
+        text = "".join(TEXTS.values())
+        self.assertEqual(len(re.findall(r"\bsuper\b", text)), len(re.findall(r"\bsuper\(\)\.\w+\(", text)))
+
+    def test_exponents_are_literal(self):
+        for where, node in nodes(ast.BinOp):
+            if isinstance(node.op, ast.Pow):
+                self.assertIsInstance(node.right, ast.Constant, where)
+                self.assertIn(node.right.value, range(65), where)
+
+    def test_tables_are_not_passed_on(self):
+        for name, tree in TREES.items():
+            tables = [node.targets[0].id for node in tree.body if isinstance(node, ast.Assign)
+                      and isinstance(node.value, (ast.List, ast.Dict))]
+            used = [part for node in ast.walk(tree) for part in ast.iter_child_nodes(node)
+                    if isinstance(part, ast.Name) and part.id in tables
+                    and not isinstance(node, (ast.Assign, ast.Compare, ast.Subscript, ast.Attribute))]
+            self.assertEqual([part.lineno for part in used], [], name)
 
     def test_no_generator_expression_where_a_class_has_its_own_equality(self):
         for where, node in nodes(ast.Call):

@@ -165,7 +165,7 @@ class TestBeginning(SavedCase):
                 own_sealed((None, ("turn", 0))), own_sealed((("turn", 0), "deed")), own_sealed(None), own_sealed(True),
                 own_sealed(("shape", resting(A))), own_sealed(("shape", resting(TWO))), own_sealed(("shape", flagged)),
                 own_sealed(("shape", shape[:-1])), own_sealed(("shape", shape, 0)), own_sealed(("shape",)),
-                own_sealed(("shape", None)), own_sealed(("shapes", shape)), own_sealed(("ask", ("root", 0))),
+                own_sealed(("shape", None)), own_sealed(("deed", shape)), own_sealed(("shapes", shape)), own_sealed(("ask", ("root", 0))),
                 own_sealed(("shape", resting(Forest((None,), (0,))))), own_sealed(("shape", ("turn", 0))),
                 own_sealed(("forest", kept.forest().parents, kept.forest().worths))]:
             right = [own_sealed(("deed", ("turn", 2))), own_sealed(("shape", shape)), own]
@@ -191,6 +191,7 @@ class TestBeginning(SavedCase):
     def test_is_made_with_the_disk_itself(self):
         disk = Disk()
         saved = SavedKept(A, disk)
+        self.assertIsInstance(saved, Kept)
         saved.deed(("cut", 1))
         self.assertEqual(len(disk.blocks()), 2)
 
